@@ -1,0 +1,1 @@
+"""Darkdrawers: how many things must be taken in the dark."""

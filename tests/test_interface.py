@@ -1,0 +1,96 @@
+import ast
+import importlib
+import inspect
+import pathlib
+import unittest
+
+PACKAGE = pathlib.Path(__file__).parent.parent / "darkdrawers"
+
+FUNCTIONS = {
+    "stocks": {
+        "is_stock": "(value)",
+        "stock_error": "(value)",
+        "totals_of": "(stock)",
+        "sizes_of": "(stock)",
+        "merged": "(stock, *drawers)",
+    },
+}
+CONSTANTS = {
+    "bounds": ["LIMIT", "MAX_DRAWERS", "MAX_KINDS", "MAX_COUNT", "MAX_COLLECTIONS",
+               "SMALL_PLANS", "SMALL_THINGS", "MAX_EDITS", "BATCH"],
+}
+CLASSES = {
+    "errors": ["DrawerError", "TooLarge", "BadCounts", "OtherKinds", "TooMuch", "TooFew",
+               "BadKinds", "BadWish", "BadHeap", "BadStock", "Busy", "TooManyEdits", "BadCount",
+               "BadCollection", "TooManyCollections", "LastCollection", "NothingToUndo",
+               "BadEdits", "BadEdit", "Rejected", "BadPlan", "BadMost", "TooFull", "BadText",
+               "NoKind", "NoDrawer", "NoCollection", "NoVersion"],
+}
+
+
+def parsed(path):
+    return ast.parse(path.read_text(encoding="utf-8"))
+
+
+def defined_in(module, kind):
+    """The names that a file of the package defines itself, by nodes of this kind."""
+    return [node.name for node in parsed(PACKAGE / f"{module}.py").body if isinstance(node, kind)]
+
+
+class InterfaceTest(unittest.TestCase):
+    def test_functions_stand_in_the_file_that_lists_them(self):
+        for module, functions in FUNCTIONS.items():
+            for name, parameters in functions.items():
+                with self.subTest(module=module, name=name):
+                    self.assertIn(name, defined_in(module, ast.FunctionDef))
+                    loaded = getattr(importlib.import_module(f"darkdrawers.{module}"), name)
+                    self.assertEqual(str(inspect.signature(loaded)), parameters)
+
+    def test_classes_stand_in_the_file_that_lists_them(self):
+        for module, classes in CLASSES.items():
+            for name in classes:
+                with self.subTest(module=module, name=name):
+                    self.assertIn(name, defined_in(module, ast.ClassDef))
+
+    def test_constants_stand_in_the_file_that_lists_them(self):
+        for module, constants in CONSTANTS.items():
+            assigned = [node.targets[0].id for node in parsed(PACKAGE / f"{module}.py").body
+                        if isinstance(node, ast.Assign)]
+            for name in constants:
+                with self.subTest(module=module, name=name):
+                    self.assertEqual(assigned.count(name), 1)
+
+
+class FormTest(unittest.TestCase):
+    """The rules on files, characters and sizes (L1, L10, L14)."""
+
+    def setUp(self):
+        self.paths = sorted(PACKAGE.rglob("*.py"))
+        self.assertTrue(self.paths)
+
+    def test_the_package_holds_only_python_files(self):
+        for path in PACKAGE.iterdir():
+            if path.name != "__pycache__":
+                with self.subTest(path.name):
+                    self.assertEqual(path.suffix, ".py")
+                    self.assertTrue(path.stem.isidentifier() and path.stem.islower())
+
+    def test_characters_are_printable_ascii_and_lines_are_short(self):
+        for path in self.paths:
+            lines = path.read_bytes().decode("ascii").split("\n")
+            with self.subTest(path.name):
+                self.assertLessEqual(len(lines), 399)
+                for line in lines:
+                    self.assertLessEqual(len(line), 120)
+                    self.assertTrue(all(" " <= character <= "~" for character in line), line)
+
+    def test_functions_are_short(self):
+        for path in self.paths:
+            for node in ast.walk(parsed(path)):
+                if isinstance(node, ast.FunctionDef):
+                    with self.subTest(path=path.name, function=node.name):
+                        self.assertLessEqual(node.end_lineno - node.lineno + 1, 40)
+
+
+if __name__ == "__main__":
+    unittest.main()
