@@ -22,3 +22,10 @@ def are_numbers(value, fewest, most, limit):
     if not is_tuple_of(value, fewest, most):
         return False
     return all([is_number_up_to(number, limit) for number in value])
+
+
+def are_numbers_up_to(value, limits):
+    """Whether the value is a tuple with a number from 0 to the limit for each of the limits."""
+    if not is_tuple_of(value, len(limits), len(limits)):
+        return False
+    return all([is_number_up_to(number, limit) for number, limit in zip(value, limits)])

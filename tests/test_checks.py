@@ -1,6 +1,7 @@
 import unittest
 
-from darkdrawers.checks import are_numbers, is_number, is_number_up_to, is_tuple_of
+from darkdrawers.checks import (
+    are_numbers, are_numbers_up_to, is_number, is_number_up_to, is_tuple_of)
 from tests.samples import STRANGE_VALUES
 
 
@@ -28,6 +29,14 @@ class ChecksTest(unittest.TestCase):
                               ((0, False), False), ((None,), False), (("1",), False), (1, False)]:
             with self.subTest(value=value):
                 self.assertIs(are_numbers(value, 1, 2, 9), answer)
+
+    def test_a_tuple_of_numbers_up_to_their_limits(self):
+        for value, answer in [((0, 0), True), ((2, 5), True), ((3, 0), False), ((0, 6), False),
+                              ((-1, 5), False), ((5, 2), False), ((2,), False), ((), False),
+                              ((2, 5, 0), False), ([2, 5], False), ((True, 5), False),
+                              ((0, False), False), ((2, "5"), False), (None, False), (2, False)]:
+            with self.subTest(value=value):
+                self.assertIs(are_numbers_up_to(value, (2, 5)), answer)
 
     def test_numbers_then_bools_then_numbers_again(self):
         for value, answer in [((0, 1), True), ((False, True), False), ((0, 1), True)]:

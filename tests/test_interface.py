@@ -14,6 +14,27 @@ FUNCTIONS = {
         "sizes_of": "(stock)",
         "merged": "(stock, *drawers)",
     },
+    "wishes": {
+        "are_collections": "(kinds, value)",
+        "fulfilled_by": "(collections, counts)",
+        "spoilings_of": "(collections)",
+        "caps_of": "(collections, spoiling)",
+    },
+    "plans": {
+        "is_plan": "(stock, value)",
+        "is_draw": "(stock, plan, value)",
+        "room_in": "(stock, caps, drawers)",
+        "find_certificate": "(stock, collections, plan)",
+        "certificate_holds": "(stock, collections, plan, value)",
+        "is_sure": "(stock, collections, plan)",
+        "sure_total": "(stock, collections)",
+        "sure_number": "(stock, collections, drawer)",
+    },
+    "counting": {
+        "count_draws": "(stock, plan)",
+        "count_lucky": "(stock, collections, plan)",
+        "each_draw": "(stock, plan)",
+    },
 }
 CONSTANTS = {
     "bounds": ["LIMIT", "MAX_DRAWERS", "MAX_KINDS", "MAX_COUNT", "MAX_COLLECTIONS",
