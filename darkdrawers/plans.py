@@ -40,7 +40,7 @@ def find_certificate(stock, collections, plan):
     table = []
     for spoiling in spoilings_of(collections):
         caps = caps_of(collections, spoiling)
-        drawers = overloaded(loads, caps)
+        drawers = overfull(loads, caps)
         if drawers is None:
             return ("draw", draw_within(stock, caps, plan))
         table.append(drawers)
@@ -64,7 +64,7 @@ def sets_of_drawers(stock):
     return sets
 
 
-def overloaded(loads, caps):
+def overfull(loads, caps):
     """The first drawers from which more things are taken than their room, or None."""
     for drawers, taken, totals in loads:
         if taken > room_of(totals, caps):
@@ -73,7 +73,7 @@ def overloaded(loads, caps):
 
 
 def draw_within(stock, caps, plan):
-    """A draw of the plan with no more of any kind than its cap; no drawers may be overloaded."""
+    """A draw of the plan with no more of any kind than its cap; no drawers may be overfull."""
     left = [total if cap is None else cap for total, cap in zip(totals_of(stock), caps)]
     draw = []
     for place, drawer in enumerate(stock):
@@ -91,7 +91,7 @@ def draw_within(stock, caps, plan):
 
 
 def spare_of(loads, caps, kind):
-    """The most things of the kind that may be taken elsewhere without overloading any drawers."""
+    """The most things of the kind that may be taken elsewhere without any drawers getting overfull."""
     without = list(caps)
     without[kind] = 0
     return caps[kind] + min([room_of(totals, without) - taken for _, taken, totals in loads])
@@ -115,15 +115,15 @@ def is_unlucky_draw(stock, collections, plan, value):
 
 
 def is_excluding_table(stock, collections, plan, value):
-    """Whether the value has overloaded drawers for each spoiling."""
+    """Whether the value has overfull drawers for each spoiling."""
     spoilings = spoilings_of(collections)
     if not is_tuple_of(value, len(spoilings), len(spoilings)):
         return False
-    return all([are_overloaded(stock, caps_of(collections, spoiling), plan, drawers)
+    return all([are_overfull(stock, caps_of(collections, spoiling), plan, drawers)
                 for spoiling, drawers in zip(spoilings, value)])
 
 
-def are_overloaded(stock, caps, plan, value):
+def are_overfull(stock, caps, plan, value):
     """Whether the value is drawers from which the plan takes more things than their room."""
     if not are_drawers(stock, value):
         return False

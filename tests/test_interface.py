@@ -2,6 +2,7 @@ import ast
 import importlib
 import inspect
 import pathlib
+import re
 import unittest
 
 PACKAGE = pathlib.Path(__file__).parent.parent / "darkdrawers"
@@ -48,6 +49,15 @@ CLASSES = {
                "NoKind", "NoDrawer", "NoCollection", "NoVersion"],
 }
 
+# Words that L17 bars from the files, and those that it bars inside longer words, too.
+BARRED_WORDS = ["type", "typing", "typing_extensions", "enum", "Enum", "IntEnum", "StrEnum",
+                "Flag", "IntFlag", "Generic", "Protocol", "ABC", "ABCMeta", "namedtuple",
+                "NamedTuple", "TypedDict", "TYPE_CHECKING", "abstractmethod"]
+BARRED_PARTS = ["dataclass", "overload", "contextmanager", "(type)", "Meta", "metaclass="]
+# Names that L17 bars everywhere.
+BARRED_NAMES = ["register", "mro", "elements", "open", "input", "law", "version_info",
+                "with_traceback", "add_note"]
+
 
 def parsed(path):
     return ast.parse(path.read_text(encoding="utf-8"))
@@ -83,7 +93,7 @@ class InterfaceTest(unittest.TestCase):
 
 
 class FormTest(unittest.TestCase):
-    """The rules on files, characters and sizes (L1, L10, L14)."""
+    """The rules on files, characters, sizes and words (L1, L10, L14, L17)."""
 
     def setUp(self):
         self.paths = sorted(PACKAGE.rglob("*.py"))
@@ -111,6 +121,17 @@ class FormTest(unittest.TestCase):
                 if isinstance(node, ast.FunctionDef):
                     with self.subTest(path=path.name, function=node.name):
                         self.assertLessEqual(node.end_lineno - node.lineno + 1, 40)
+
+    def test_barred_words_do_not_occur(self):
+        for path in self.paths:
+            text = path.read_text(encoding="utf-8")
+            words = re.findall(r"\w+", text)
+            for word in BARRED_WORDS + BARRED_NAMES:
+                with self.subTest(path=path.name, word=word):
+                    self.assertNotIn(word, words)
+            for part in BARRED_PARTS:
+                with self.subTest(path=path.name, part=part):
+                    self.assertNotIn(part, text)
 
 
 if __name__ == "__main__":
