@@ -12,6 +12,11 @@ def is_number_up_to(value, most):
     return is_number(value) and 0 <= value <= most
 
 
+def is_positive_up_to(value, most):
+    """Whether the value is a number from 1 to most."""
+    return is_number_up_to(value, most) and value > 0
+
+
 def is_tuple_of(value, fewest, most):
     """Whether the value is a tuple of fewest to most items."""
     return isinstance(value, tuple) and fewest <= len(value) <= most

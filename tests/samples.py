@@ -69,6 +69,15 @@ def unchanged(test, call, *values):
     test.assertEqual([shape(value) for value in values], kept)
 
 
+def check_raises(test, expected, call, *values, **named):
+    """Tests that the call raises an error of this very class with these very fields."""
+    with test.assertRaises(type(expected)) as held:
+        call(*values, **named)
+    test.assertIs(type(held.exception), type(expected))
+    fields = {name: shape(value) for name, value in vars(held.exception).items()}
+    test.assertEqual(fields, {name: shape(value) for name, value in vars(expected).items()})
+
+
 class Dice:
     """Numbers that look thrown, but are the same in each run."""
 

@@ -1,7 +1,7 @@
 import unittest
 
 from darkdrawers.checks import (
-    are_numbers, are_numbers_up_to, is_number, is_number_up_to, is_tuple_of)
+    are_numbers, are_numbers_up_to, is_number, is_number_up_to, is_positive_up_to, is_tuple_of)
 from tests.samples import STRANGE_VALUES
 
 
@@ -16,6 +16,13 @@ class ChecksTest(unittest.TestCase):
                               (False, False), (True, False), (None, False), ("1", False)]:
             with self.subTest(value=value):
                 self.assertIs(is_number_up_to(value, 7), answer)
+
+    def test_a_number_from_1_to_a_limit(self):
+        for value, answer in [(-1, False), (0, False), (1, True), (7, True), (8, False),
+                              (10 ** 39, False), (False, False), (True, False), (None, False),
+                              ("1", False), ((1,), False)]:
+            with self.subTest(value=value):
+                self.assertIs(is_positive_up_to(value, 7), answer)
 
     def test_a_tuple_of_so_many_items(self):
         for value, answer in [((), False), ((None,), True), ((1, 2), True), ((1, 2, 3), False),

@@ -36,6 +36,10 @@ FUNCTIONS = {
         "count_lucky": "(stock, collections, plan)",
         "each_draw": "(stock, plan)",
     },
+    "texts": {
+        "cabinet_text": "(stock, collections)",
+        "parse_cabinet": "(value)",
+    },
 }
 CONSTANTS = {
     "bounds": ["LIMIT", "MAX_DRAWERS", "MAX_KINDS", "MAX_COUNT", "MAX_COLLECTIONS",
@@ -47,6 +51,17 @@ CLASSES = {
                "BadCollection", "TooManyCollections", "LastCollection", "NothingToUndo",
                "BadEdits", "BadEdit", "Rejected", "BadPlan", "BadMost", "TooFull", "BadText",
                "NoKind", "NoDrawer", "NoCollection", "NoVersion"],
+    "hands": ["Hand"],
+    "values": ["Heap", "Wish"],
+}
+# The methods that the interface lists for a class, with their parameters; None for any names.
+METHODS = {
+    ("hands", "Hand"): {"__init__": "(self, most)", "free": "(self, number)"},
+    ("values", "Heap"): {
+        "__init__": "(self, counts)", "__getitem__": None, "__add__": None, "__sub__": None,
+        "__contains__": None, "__len__": None, "__str__": None, "__eq__": None,
+    },
+    ("values", "Wish"): {"__init__": "(self, kinds, collections)", "__call__": None},
 }
 
 # Words that L17 bars from the files, and those that it bars inside longer words, too.
@@ -82,6 +97,15 @@ class InterfaceTest(unittest.TestCase):
             for name in classes:
                 with self.subTest(module=module, name=name):
                     self.assertIn(name, defined_in(module, ast.ClassDef))
+
+    def test_methods_stand_in_the_class_that_lists_them(self):
+        for (module, name), methods in METHODS.items():
+            held = vars(getattr(importlib.import_module(f"darkdrawers.{module}"), name))
+            for method, parameters in methods.items():
+                with self.subTest(name=name, method=method):
+                    self.assertIn(method, held)
+                    if parameters is not None:
+                        self.assertEqual(str(inspect.signature(held[method])), parameters)
 
     def test_constants_stand_in_the_file_that_lists_them(self):
         for module, constants in CONSTANTS.items():
