@@ -46,3 +46,13 @@ def merged(stock, *drawers):
         elif index not in drawers:
             left.append(drawer)
     return tuple(left)
+
+
+def with_more(stock, drawer, kind, count):
+    """The stock with so many more things of the kind in the drawer, or fewer for a count below 0."""
+    return with_item(stock, drawer, with_item(stock[drawer], kind, stock[drawer][kind] + count))
+
+
+def with_item(items, at, item):
+    """The tuple with this item at this place instead of its own."""
+    return items[:at] + (item,) + items[at + 1:]

@@ -176,3 +176,107 @@ def many_choices(stock, plan):
         size = sum(drawer)
         number *= math.factorial(size) // math.factorial(few) // math.factorial(size - few)
     return number
+
+
+def room_of_all(stock, collections, spoiling):
+    return room_in(stock, caps_of(collections, spoiling), range(len(stock)))
+
+
+def sure_by_rooms(stock, collections):
+    """What sure_total returns, by the greatest room, for stocks that are too large to try all."""
+    if is_unlucky(collections, stock):
+        return None
+    return 1 + max(room_of_all(stock, collections, spoiling)
+                   for spoiling in spoilings_of(collections))
+
+
+def is_above(plan, other):
+    return plan != other and all(more >= less for more, less in zip(plan, other))
+
+
+def least_plans(stock, collections):
+    """The least sure plans, from all draws of all plans and by comparing each with each."""
+    sure = [plan for plan, answer in sure_plans(stock, collections).items() if answer]
+    return tuple(sorted(
+        plan for plan in sure if not any(is_above(plan, other) for other in sure)))
+
+
+def cheapest_plan(stock, collections, prices):
+    """The first in the order of tuples of all sure plans that cost least."""
+    best = None
+    for plan, answer in sorted(sure_plans(stock, collections).items()):
+        cost = sum(number * price for number, price in zip(plan, prices))
+        if answer and (best is None or cost < best[0]):
+            best = (cost, plan)
+    return best and best[1]
+
+
+def steps_from(stock, drawer):
+    """What may be taken from the drawer: (the stock after it, the kind of the thing)."""
+    for kind in range(len(stock[drawer])):
+        if stock[drawer][kind]:
+            left = [list(counts) for counts in stock]
+            left[drawer][kind] -= 1
+            yield tuple(map(tuple, left)), kind
+
+
+def one_more(counts, kind):
+    return tuple(count + (at == kind) for at, count in enumerate(counts))
+
+
+def is_enough(stock, collections, counts, number):
+    """Whether so many further things are enough with looking, by trying all ways to choose."""
+    if first_fulfilled(collections, counts) is not None:
+        return True
+    return number > 0 and any(
+        is_enough_from(stock, collections, counts, number, drawer)
+        for drawer in range(len(stock)))
+
+
+def is_enough_from(stock, collections, counts, number, drawer):
+    """The same if the first of these things is taken from this drawer."""
+    steps = list(steps_from(stock, drawer))
+    return bool(steps) and all(
+        is_enough(left, collections, one_more(counts, kind), number - 1) for left, kind in steps)
+
+
+def looking_number(stock, collections, counts):
+    """The least number of further things that is enough with looking, or None."""
+    for number in range(sum(map(sum, stock)) + 1):
+        if is_enough(stock, collections, counts, number):
+            return number
+    return None
+
+
+def next_drawer(stock, collections, counts):
+    number = looking_number(stock, collections, counts)
+    if not number:
+        return None
+    return min(drawer for drawer in range(len(stock))
+               if is_enough_from(stock, collections, counts, number, drawer))
+
+
+def looking_table(stock, collections):
+    """The same numbers for greater stocks: for each rest of the stock, from the smallest on.
+
+    Each row is (number, drawers): the least number of further things, or None if there is none,
+    and the drawers from which to take next.
+    """
+    totals = added(stock, kinds_of(collections))
+    table = {}
+    for rest in itertools.product(*[numbers_up_to(drawer) for drawer in stock]):
+        left = added(rest, kinds_of(collections))
+        counts = tuple(total - few for total, few in zip(totals, left))
+        numbers = {}
+        for drawer in range(len(stock)):
+            after = [table[step][0] for step, _ in steps_from(rest, drawer)]
+            if after and None not in after:
+                numbers[drawer] = 1 + max(after)
+        if first_fulfilled(collections, counts) is not None:
+            table[rest] = (0, [])
+        elif numbers:
+            least = min(numbers.values())
+            table[rest] = (least, [drawer for drawer in numbers if numbers[drawer] == least])
+        else:
+            table[rest] = (None, [])
+    return table

@@ -14,12 +14,6 @@ def greatest_rooms(stock, collections, drawers):
     return max(row[drawers] for row in brute.rooms_of(stock, collections))
 
 
-def expected_total(stock, collections):
-    if brute.is_unlucky(collections, stock):
-        return None
-    return 1 + greatest_rooms(stock, collections, tuple(range(len(stock))))
-
-
 def expected_number(stock, collections, drawer):
     if brute.is_unlucky(collections, (stock[drawer],)):
         return None
@@ -85,7 +79,7 @@ class SureTotalTest(unittest.TestCase):
         for stock, collections in large_cases():
             with self.subTest(stock=stock, collections=collections):
                 answers.append(sure_total(stock, collections))
-                self.assertEqual(answers[-1], expected_total(stock, collections))
+                self.assertEqual(answers[-1], brute.sure_by_rooms(stock, collections))
         self.assertGreater(len(set(answers)), 5)
 
     def test_none_if_all_things_are_not_enough(self):
