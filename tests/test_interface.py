@@ -36,6 +36,14 @@ FUNCTIONS = {
         "count_lucky": "(stock, collections, plan)",
         "each_draw": "(stock, plan)",
     },
+    "least": {
+        "least_plans": "(stock, collections)",
+        "cheapest_plan": "(stock, collections, prices)",
+    },
+    "looking": {
+        "looking_number": "(stock, collections)",
+        "next_drawer": "(stock, collections, counts)",
+    },
     "texts": {
         "cabinet_text": "(stock, collections)",
         "parse_cabinet": "(value)",
@@ -53,6 +61,8 @@ CLASSES = {
                "NoKind", "NoDrawer", "NoCollection", "NoVersion"],
     "hands": ["Hand"],
     "values": ["Heap", "Wish"],
+    "cabinets": ["Cabinet", "HandCabinet"],
+    "shells": ["Shell"],
 }
 # The methods that the interface lists for a class, with their parameters; None for any names.
 METHODS = {
@@ -62,6 +72,22 @@ METHODS = {
         "__contains__": None, "__len__": None, "__str__": None, "__eq__": None,
     },
     ("values", "Wish"): {"__init__": "(self, kinds, collections)", "__call__": None},
+    ("cabinets", "Cabinet"): {
+        "__init__": "(self, stock, collections)",
+        "put": "(self, drawer, kind, count)",
+        "remove": "(self, drawer, kind, count)",
+        "wish": "(self, collection)",
+        "drop": "(self, index)",
+        "undo": "(self)",
+        "attempt": "(self, edits, *, watch=None)",
+        "state": "(self, *, version=None)",
+        "certificate": "(self, plan, *, version=None)",
+        "walk": "(self)",
+        "edits": "(self)",
+        "read": None, "__len__": None, "__str__": None, "__eq__": None,
+    },
+    ("cabinets", "HandCabinet"): {"__init__": "(self, stock, collections, most)"},
+    ("shells", "Shell"): {"__init__": "(self, cabinet)", "execute": "(self, line)"},
 }
 
 # Words that L17 bars from the files, and those that it bars inside longer words, too.

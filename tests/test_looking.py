@@ -42,6 +42,37 @@ def wishes_for(kinds):
     yield tuple(tuple((index + kind) % 3 + 1 for kind in range(kinds)) for index in range(4))
 
 
+# Cases in which looking helps: (stock, collections, the number, the first drawer).
+LOOKING_HELPS = [
+    (((2, 1), (0, 1), (0, 0), (2, 2)), ((2, 2), (1, 1), (2, 1)), 2, 0),
+    (((2, 0), (1, 2)), ((1, 2), (1, 1)), 2, 1),
+    (((2, 2), (2, 0), (0, 0), (1, 2)), ((2, 1),), 3, 0),
+    (((2, 0), (3, 3)), ((2, 1),), 4, 1),
+    (((0, 1), (1, 2), (2, 1), (1, 0)), ((2, 0), (0, 2), (2, 0)), 2, 1),
+    (((1, 1), (3, 1)), ((2, 2), (2, 2), (2, 1)), 3, 1),
+    (((2, 1, 1), (0, 1, 1)), ((1, 0, 2), (1, 1, 0)), 3, 0),
+    (((0, 0), (2, 1), (1, 2), (0, 2)), ((1, 1),), 2, 1),
+    (((2, 2), (1, 0), (0, 1)), ((2, 0), (0, 2)), 2, 0),
+]
+
+
+def cases_with_choices():
+    """A mixed drawer at some place among pure ones: what comes first tells where to go on."""
+    dice = Dice(131)
+    for kinds, pure in [(2, 2), (2, 3), (3, 2), (3, 3)] * 10:
+        stock = [dice.counts(kinds, 2)]
+        for _ in range(pure):
+            kind = dice.throw(kinds - 1)
+            stock.append(tuple(dice.throw(2) if at == kind else 0 for at in range(kinds)))
+        at = dice.throw(pure)
+        stock = tuple(stock[at:] + stock[:at])
+        totals = brute.added(stock, range(kinds))
+        wished = [tuple(dice.throw(min(2, total)) for total in totals) for _ in range(1 + dice.throw(2))]
+        collections = tuple(collection for collection in wished if any(collection))
+        if collections:
+            yield stock, collections
+
+
 def few_things():
     """The small cases with at most six things, for which all ways to choose can be tried."""
     return [case for case in small_cases() if sum(map(sum, case[0])) <= 6]
@@ -67,6 +98,29 @@ class LookingNumberTest(unittest.TestCase):
             if sum(map(sum, stock)) <= SMALL_THINGS:
                 table = brute.looking_table(stock, collections)
                 self.assertEqual(shape(looking_number(stock, collections)), shape(table[stock][0]))
+
+    def test_stocks_with_choices(self):
+        helped = 0
+        for stock, collections in cases_with_choices():
+            table = brute.looking_table(stock, collections)
+            with self.subTest(stock=stock, collections=collections):
+                number = looking_number(stock, collections)
+                self.assertEqual(shape(number), shape(table[stock][0]))
+            plans = brute.sure_plans(stock, collections)
+            totals = [sum(plan) for plan in plans if plans[plan]]
+            helped += bool(totals) and number < min(totals)
+        self.assertGreater(helped, 0)
+
+    def test_cases_in_which_looking_helps(self):
+        for stock, collections, number, drawer in LOOKING_HELPS:
+            with self.subTest(stock=stock, collections=collections):
+                self.assertEqual(looking_number(stock, collections), number)
+                self.assertEqual(next_drawer(stock, collections, (0,) * len(stock[0])), drawer)
+                table = brute.looking_table(stock, collections)
+                self.assertEqual(table[stock][0], number)
+                self.assertEqual(min(table[stock][1]), drawer)
+                plans = brute.sure_plans(stock, collections)
+                self.assertLess(number, min(sum(plan) for plan in plans if plans[plan]))
 
     def test_one_drawer_needs_as_many_as_in_the_dark(self):
         dice = Dice(67)
@@ -174,7 +228,8 @@ class NextDrawerTest(unittest.TestCase):
 
     def test_all_rests_of_small_stocks(self):
         found = set()
-        for stock, collections in small_cases():
+        helping = [(stock, collections) for stock, collections, _, _ in LOOKING_HELPS]
+        for stock, collections in small_cases() + helping + list(cases_with_choices()):
             if sum(map(sum, stock)) <= SMALL_THINGS:
                 totals = brute.added(stock, range(len(stock[0])))
                 table = brute.looking_table(stock, collections)
