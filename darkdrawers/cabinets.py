@@ -150,7 +150,7 @@ class Cabinet:
                 self.do_edit(edit)
             except (DrawerError, NoDrawer, NoKind, NoCollection):
                 raise Rejected(index) from None
-            if watch is not None and self.ask(watch):
+            if watch is not None and self.is_stopped_by(watch):
                 return index + 1
         return len(batch)
 
@@ -166,11 +166,11 @@ class Cabinet:
             return self.put(drawer, kind, count)
         return self.remove(drawer, kind, count)
 
-    def ask(self, watch):
-        """What watch returns for this cabinet, which no edit changes meanwhile."""
+    def is_stopped_by(self, watch):
+        """Whether watch stops the batch; meanwhile no edit changes this cabinet."""
         self.watched = True
         try:
-            return watch(self)
+            return bool(watch(self))
         finally:
             self.watched = False
 

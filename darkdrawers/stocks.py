@@ -53,6 +53,6 @@ def with_more(stock, drawer, kind, count):
     return with_item(stock, drawer, with_item(stock[drawer], kind, stock[drawer][kind] + count))
 
 
-def with_item(items, at, item):
+def with_item(row, at, item):
     """The tuple with this item at this place instead of its own."""
-    return items[:at] + (item,) + items[at + 1:]
+    return row[:at] + (item,) + row[at + 1:]

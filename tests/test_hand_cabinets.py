@@ -276,6 +276,7 @@ class EqualTest(unittest.TestCase):
             if brute.sure_by_rooms(stock, collections) is not None:
                 one, other = Cabinet(stock, collections), HandCabinet(stock, collections, LIMIT)
                 self.assertIs(one == other, False)
+                self.assertIs(one.__eq__(other), False)
                 self.assertIs(other == one, False)
                 self.assertIs(one != other, True)
                 self.assertIs(other != one, True)

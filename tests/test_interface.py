@@ -133,6 +133,10 @@ class InterfaceTest(unittest.TestCase):
                     if parameters is not None:
                         self.assertEqual(str(inspect.signature(held[method])), parameters)
 
+    def test_read_is_called_on_the_class(self):
+        cabinet = importlib.import_module("darkdrawers.cabinets").Cabinet
+        self.assertEqual(str(inspect.signature(cabinet.read)), "(text)")
+
     def test_constants_stand_in_the_file_that_lists_them(self):
         for module, constants in CONSTANTS.items():
             assigned = [node.targets[0].id for node in parsed(PACKAGE / f"{module}.py").body
