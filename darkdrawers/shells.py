@@ -17,7 +17,7 @@ class Shell:
         self.cabinet = cabinet
 
     def execute(self, line):
-        """The answer to the line."""
+        """The answer to the line; an error of the cabinet is answered with the name of its class."""
         command = command_in(line, len(self.cabinet.stock[0]))
         if command is None:
             return "unknown command"
