@@ -101,7 +101,7 @@ class Cabinet:
             raise TooManyEdits()
 
     def check_things(self, drawer, kind, count):
-        """Raises an error if no so many things of such a kind are moved to or from such a drawer."""
+        """Raises the first of the errors that put and remove have in common, if one applies."""
         if not is_number_up_to(drawer, len(self.stock) - 1):
             raise NoDrawer(drawer)
         if not is_number_up_to(kind, len(self.stock[0]) - 1):
@@ -114,7 +114,7 @@ class Cabinet:
         pass
 
     def change(self, edit, stock, collections):
-        """Lets the edit stand, which gives this stock and these collections; the new version."""
+        """Lets the edit stand, which gives this stock and these collections; returns the new version."""
         sure = sure_total(stock, collections)
         self.check_sure(sure)
         self.past = (*self.past, (edit, self.stock, self.collections))
